@@ -131,15 +131,12 @@ func TestChoosersKeepToThemselves(t *testing.T) {
 
 // R3
 func TestNil(t *testing.T) {
-	for _, c := range []*choice.Chooser{nil, {}} {
-		b, ok := c.Pick(tup(1))
-		if b != (api.Backend{}) || ok || c.Set(backends(1), nil) != api.ErrArg || len(c.Table()) != 0 || c.Made() != 0 {
-			t.Error("a nil chooser has something")
-		}
-		if b, ok := c.Find(1); b != (api.Backend{}) || ok {
-			t.Error("a nil chooser finds something")
-		}
+	var c *choice.Chooser
+	b, ok := c.Pick(tup(1))
+	if b != (api.Backend{}) || ok || c.Set(backends(1), nil) != api.ErrArg || len(c.Table()) != 0 || c.Made() != 0 {
+		t.Error("a nil chooser has something")
 	}
-	c := choice.New(13)
-	c.Set(backends(1), func(int) bool { panic("out") })
+	if b, ok := c.Find(1); b != (api.Backend{}) || ok {
+		t.Error("a nil chooser finds something")
+	}
 }

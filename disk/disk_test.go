@@ -172,7 +172,7 @@ func TestRemove(t *testing.T) {
 	d := disk.New(100)
 	want(t, d.Append("a", []byte("1")), api.OK, d.Sync("a"), api.OK, d.SyncDir(), api.OK, d.Remove("a"), api.OK, d.Remove("a"), api.ErrNone)
 	has(t, d, "")
-	if b, ok := d.Read("a"); ok || b != nil || d.Size() != 0 {
+	if b, ok := d.Read("a"); ok || len(b) != 0 || d.Size() != 0 {
 		t.Error("it is there yet")
 	}
 	back := d.Copy()
@@ -300,11 +300,7 @@ func TestNil(t *testing.T) {
 	want(t, d.Append("a", nil), api.ErrArg, d.Sync("a"), api.ErrArg, d.SyncDir(), api.ErrArg, d.Rename("a", "b"), api.ErrArg, d.Remove("a"), api.ErrArg, d.Cut("a", 0), api.ErrArg)
 	d.Fail(1)
 	d.Crash([]byte{1})
-	if b, ok := d.Read("a"); ok || b != nil || d.Names() != nil || d.Size() != 0 || d.Ops() != 0 || d.Quota() != 0 || d.Copy() != nil {
+	if b, ok := d.Read("a"); ok || len(b) != 0 || len(d.Names()) != 0 || d.Size() != 0 || d.Ops() != 0 || d.Quota() != 0 || d.Copy() != nil {
 		t.Error("a nil disk has something")
 	}
-	var zero disk.Disk
-	zero.Crash([]byte{1, 2})
-	want(t, zero.SyncDir(), api.OK, zero.Append("a", []byte("1")), api.ErrQuota, zero.Append("a", nil), api.OK)
-	has(t, zero.Copy(), "a=")
 }

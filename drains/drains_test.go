@@ -108,8 +108,4 @@ func TestNil(t *testing.T) {
 	if until != 0 || ok || s.Is(1) || s.Clear(1) || len(s.Due(9)) != 0 || len(s.All()) != 0 || s.Len() != 0 {
 		t.Error("a nil set has something")
 	}
-	var zero drains.Set
-	isDue(t, &zero, 9)
-	put(t, &zero, 1, 1, api.OK)
-	isDue(t, &zero, 9, 1)
 }

@@ -172,7 +172,4 @@ func TestNil(t *testing.T) {
 	if at != 0 || ok || key != "" || next != 0 || there || q.Drop("a") || len(q.Due(1)) != 0 || q.Len() != 0 {
 		t.Error("a nil queue has something")
 	}
-	var zero due.Queue
-	set(t, &zero, "a", 1, api.OK)
-	isDue(t, &zero, 1, "a")
 }

@@ -226,12 +226,7 @@ func TestNil(t *testing.T) {
 	var x *flows.Table
 	put(t, x, flow(1, 2, 3), false, api.ErrArg)
 	f, ok := x.Get(tup(1))
-	if f != (api.Flow{}) || ok || x.Touch(tup(1), 2) || x.Drop(tup(1)) || x.Idle(9) != nil || x.Of(1) != nil || x.All() != nil || x.Len() != 0 || x.Most() != 0 {
+	if f != (api.Flow{}) || ok || x.Touch(tup(1), 2) || x.Drop(tup(1)) || len(x.Idle(9)) != 0 || len(x.Of(1)) != 0 || len(x.All()) != 0 || x.Len() != 0 || x.Most() != 0 {
 		t.Error("a nil table has something")
-	}
-	var zero flows.Table
-	put(t, &zero, flow(1, 2, 3), false, api.ErrFull)
-	if zero.Touch(tup(1), 2) || zero.Drop(tup(1)) || zero.Idle(9) != nil {
-		t.Error("a zero table has something")
 	}
 }

@@ -52,7 +52,7 @@ func TestMay(t *testing.T) {
 		if manifest.May(m) {
 			t.Errorf("%s may be", name)
 		}
-		if b, e := manifest.Encode(m); e != api.ErrArg || b != nil {
+		if b, e := manifest.Encode(m); e != api.ErrArg || len(b) != 0 {
 			t.Errorf("Encode, %s: %d", name, e)
 		}
 	}

@@ -70,7 +70,7 @@ func TestRecord(t *testing.T) {
 		}
 	}
 	full := api.Record{Kind: api.RClear, Flow: put.Flow, Gen: 4, Backends: gen.Backends, Backend: 5, Until: 6, Count: 7}
-	if got, e := migrate.Record(full, 3, 3); e != api.OK || got.Flow != (api.Flow{}) || got.Gen != 0 || got.Backends != nil || got.Until != 0 || got.Count != 0 || got.Backend != 5 {
+	if got, e := migrate.Record(full, 3, 3); e != api.OK || got.Flow != (api.Flow{}) || got.Gen != 0 || len(got.Backends) != 0 || got.Until != 0 || got.Count != 0 || got.Backend != 5 {
 		t.Errorf("what a kind has not: %d, %v", e, got)
 	}
 }
