@@ -76,6 +76,52 @@ func TestSickByItsQuota(t *testing.T) {
 	}
 }
 
+// P25.2: what a step writes, it writes in order; what fails ends it
+func TestRecordsInOrder(t *testing.T) {
+	flows := []api.Flow{flow(1, 9, 1, 1), flow(2, 9, 1, 0), flow(3, 9, 1, 0)}
+	drains := []api.Drain{{Backend: 1, Until: 31}, {Backend: 2, Until: 30}, {Backend: 9, Until: 50}}
+	first := api.State{Gen: 2, Backends: backends(1, 2, 9), Drains: drains, Flows: flows}
+	after := func(change func(v *api.State)) api.State {
+		v := first
+		v.Flows, v.Drains = slices.Clone(flows), slices.Clone(drains)
+		change(&v)
+		return v
+	}
+	for name, x := range map[string]struct {
+		step   api.Step
+		stored []api.State // by how many of its records are written
+	}{
+		"tick": {tick(31), []api.State{
+			first,
+			after(func(v *api.State) { v.Flows = []api.Flow{flows[0], flows[2]} }),
+			after(func(v *api.State) { v.Flows = flows[:1] }),
+			after(func(v *api.State) { v.Flows = nil }),
+			after(func(v *api.State) { v.Flows, v.Drains = nil, []api.Drain{drains[0], drains[2]} }),
+			after(func(v *api.State) {
+				v.Flows, v.Drains, v.Gen, v.Backends = nil, []api.Drain{drains[0], drains[2]}, 3, backends(1, 9)
+			}),
+			after(func(v *api.State) { v.Flows, v.Drains, v.Gen, v.Backends = nil, drains[2:], 3, backends(1, 9) }),
+			after(func(v *api.State) { v.Flows, v.Drains, v.Gen, v.Backends = nil, drains[2:], 4, backends(9) }),
+		}},
+		"gen": {gen(2, 5), []api.State{
+			first,
+			after(func(v *api.State) { v.Drains = drains[1:] }),
+			after(func(v *api.State) { v.Drains = drains[1:2] }),
+			after(func(v *api.State) { v.Drains, v.Gen, v.Backends = drains[1:2], 3, backends(2, 5) }),
+		}},
+	} {
+		for n, want := range x.stored {
+			b := made(t, with(func(c *api.Config) { c.Segment = api.MaxFile }))
+			ok(t, b, gen(9), packet(3), packet(2), tick(1), packet(1), gen(1, 2, 9), drain(9, 49), drain(2, 29), drain(1, 30), fault(n+1), x.step)
+			is(t, name, b.Stored(), want)
+			lost := len(x.stored) - 1 - n
+			if b.Lost() != lost || b.Sick() != (lost > 0) {
+				t.Errorf("%s, the record behind %d fails: %d are lost", name, n, b.Lost())
+			}
+		}
+	}
+}
+
 // P25.2
 func TestSync(t *testing.T) {
 	b := made(t, config)
@@ -236,6 +282,20 @@ func TestBeginAnewWithTooManyFlows(t *testing.T) {
 	if v := b.Stored(); len(v.Flows) != 4 || !record.Same(api.Record{Kind: api.RPut, Flow: v.Flows[3]}, api.Record{Kind: api.RPut, Flow: flow(4, 7, 1, 1)}) {
 		t.Errorf("%v", v)
 	}
+}
+
+// P25.2: who drains, but is no backend, makes no generation when it is due
+func TestADrainOfNoBackend(t *testing.T) {
+	b := made(t, config)
+	ok(t, b, gen(7))
+	s, e := store.Open(b.Disk(), 3, 200)
+	if e != api.OK || s.Write(api.Record{Kind: api.RDrain, Backend: 9, Until: 2}) != api.OK || s.Sync() != api.OK {
+		t.Fatalf("Open: %d", e)
+	}
+	ok(t, b, crash(), tick(1))
+	isStored(t, b, api.State{Gen: 1, Backends: backends(7), Drains: []api.Drain{{Backend: 9, Until: 2}}})
+	ok(t, b, tick(1))
+	isStored(t, b, api.State{Gen: 1, Backends: backends(7)})
 }
 
 // lose takes the manifest away, and tells what it was.

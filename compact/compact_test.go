@@ -135,6 +135,10 @@ func TestNeeds(t *testing.T) {
 	if !want || compact.Needs(s, s.Size()) || compact.Needs(s, plenty) {
 		t.Errorf("%d bytes", s.Size())
 	}
+	_, twice := written(t, 3, plenty, gen(), gen())
+	if twice.Size() != 42 || compact.Needs(twice, 0) || twice.Write(gen()) != api.OK || !compact.Needs(twice, 0) {
+		t.Errorf("%d bytes, of which 21 would do", twice.Size())
+	}
 	if compact.Needs(nil, 0) || compact.Needs(nil, -1) {
 		t.Error("no store needs it")
 	}

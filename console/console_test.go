@@ -52,12 +52,34 @@ func TestNew(t *testing.T) {
 	if b := c.Balancer(); b == nil || b.Disk().Quota() != 20000 || b.Version() != 3 {
 		t.Error("Balancer")
 	}
-	for range 30 {
-		c.Line("gen " + pool)
+}
+
+// P26.1: how many flows, how long, how great a packet, how long a segment
+func TestWhatABalancerIsAtFirst(t *testing.T) {
+	c := console.New()
+	says(t, c, "gen "+pool, "ok", "tick 11", "ok", "now", "11")
+	for _, port := range strings.Fields("11 12 13 14 15 16 17 18 19") {
+		says(t, c, "send tcp 1.2.3.4:"+port+">6.7.8.9:80", "to 1")
 	}
-	if files := c.Line("files"); !strings.HasSuffix(files, "s000001 s000002 s000003 s000004") && strings.Count(files, "s0") < 3 {
-		t.Errorf("segments of 200 bytes: %s", files)
+	if got := c.Line("flows"); strings.Count(got, ";") != 7 || strings.Contains(got, ":19>") || !strings.HasSuffix(got, "=1/1@11") {
+		t.Errorf("flows %s", got)
 	}
+	says(t, c, "tick 29", "ok")
+	if got := c.Line("flows"); strings.Count(got, ";") != 7 {
+		t.Errorf("flows %s", got)
+	}
+	says(t, c, "tick 1", "ok", "flows", "", "now", "41")
+	for length, want := range map[int]string{1480: "to 1:", 1481: "drop 11"} {
+		b := append(ip.Build(api.Header{Len: length, TTL: 9, Proto: api.UDP}), 0, 1, 0, 2, 0, 8, 0, 0)
+		b = append(b, make([]byte, length-len(b))...)
+		if got := c.Line("packet " + hex.EncodeToString(b)); !strings.HasPrefix(got, want) {
+			t.Errorf("of %d bytes: %.20s", length, got)
+		}
+	}
+	c = console.New() // 28 bytes of a generation, and 43 of each flow: 200
+	says(t, c, "gen "+pool, "ok", "send tcp 1.2.3.4:1>6.7.8.9:80", "to 1", "send tcp 1.2.3.4:2>6.7.8.9:80", "to 1", "send tcp 1.2.3.4:3>6.7.8.9:80", "to 1", "send tcp 1.2.3.4:4>6.7.8.9:80", "to 1", "files", "m s000001")
+	c = console.New() // three flows, and 26 of a drain, and 18 of its end: 201
+	says(t, c, "gen "+pool, "ok", "send tcp 1.2.3.4:1>6.7.8.9:80", "to 1", "send tcp 1.2.3.4:2>6.7.8.9:80", "to 1", "send tcp 1.2.3.4:3>6.7.8.9:80", "to 1", "drain 1 9", "ok", "files", "m s000001", "clear 1", "ok", "files", "m s000001 s000002")
 }
 
 // P26.1
@@ -119,7 +141,7 @@ func TestRenew(t *testing.T) {
 	c := console.New()
 	says(t, c, "gen "+pool, "ok", "tick 5", "ok", "new 12 8 30 3", "error 1", "new 13 8 30", "error 3", "new 13 8 30 4", "error 1", "new 13 -1 30 1", "error 1", "now", "5", "gen", "1")
 	old := c.Balancer()
-	says(t, c, "new 3 1 2 1", "ok", "now", "0", "gen", "0", "version", "1", "gen "+pool, "ok", "send "+one, "to 1", "send "+two, "to 1", "flows", one+"=1/1@0", "tick 2", "ok", "flows", "")
+	says(t, c, "new 3 1 2 1", "ok", "now", "0", "gen", "0", "version", "1", "gen "+pool, "ok", "send "+one, "to 1", "send "+two, "to 1", "flows", one+"=1/1@0", "tick 1", "ok", "flows", one+"=1/1@0", "tick 1", "ok", "flows", "")
 	if c.Balancer() == old || c.Balancer().Version() != 1 || old.Now() != 5 {
 		t.Error("it is the old one")
 	}
@@ -137,7 +159,7 @@ func TestLinesThatAreNone(t *testing.T) {
 	says(t, c, "gen "+pool, "ok", "tick 3", "ok", "send "+one, "to 1", "sync", "ok")
 	was, ops := c.Balancer().State(), c.Balancer().Disk().Ops()
 	for _, line := range []string{"x", "NOW", "nows", "now 1", "gen 1", "gen x", "gen " + pool + " " + pool, "gen 1@10.0.0.9*11", "gen 2@0.0.0.1*1,1@0.0.0.1*1", "gen -,-", "backends -", "flows 1", "drains 1", "files 1", "version 1", "lost 1", "sick 1",
-		"packet", "packet 0", "packet 000", "packet 0g", "packet 0A", "packet 00 00", "packet --", "packet " + strings.Repeat("00", 2001),
+		"packet", "packet 0", "packet 000", "packet 0g", "packet g0", "packet 00A0", "packet 0A", "packet 00 00", "packet --", "packet " + strings.Repeat("00", 2001),
 		"send", "send tcp", "send tcp 1.2.3.4:5", "send icmp 1.2.3.4:5>6.7.8.9:80", "send " + one + " x", "send tcp 1.2.3.4:5>6.7.8.9:65536", "send ? 1.2.3.4:5>6.7.8.9:80",
 		"tick", "tick x", "tick 1 1", "tick 01", "tick +1", "tick -0", "tick 1.0", "tick 0x1", "tick 1_0", "tick 9223372036854775808", "tick 99999999999999999999", "drain", "drain 1", "drain 1 x", "drain x 1", "drain 1 1 1", "clear", "clear x", "clear 1 1", "sync 1", "compact 1",
 		"crash", "crash x", "crash 0", "crash 00 00", "crash " + strings.Repeat("00", 2001), "fault", "fault x", "upgrade", "upgrade x", "hand 1", "hand x x", "hand 1 1 1", "new", "new 13 8 30 x", "new 13 8 30 3 1"} {

@@ -68,9 +68,6 @@ func made(t api.Tuple) []byte {
 }
 
 func hex(b []byte) string {
-	if len(b) == 0 {
-		return nothing
-	}
 	var s strings.Builder
 	for _, x := range b {
 		s.WriteByte(digits[x>>4])

@@ -294,6 +294,21 @@ func TestCopy(t *testing.T) {
 	has(t, c, "a=12 b=3")
 }
 
+// P3.3: what is appended to one of two is not in the other
+func TestCopiesShareNothing(t *testing.T) {
+	d := disk.New(1000)
+	for range 5 {
+		want(t, d.Append("a", []byte("123")), api.OK)
+	}
+	c := d.Copy()
+	want(t, c.Append("a", []byte("xyz")), api.OK, d.Append("a", []byte("uvw")), api.OK, c.Cut("a", 3), api.OK, c.Append("a", []byte("new")), api.OK)
+	has(t, c, "a=123new")
+	has(t, d, "a=123123123123123uvw")
+	c = d.Copy()
+	want(t, c.Append("a", []byte("xyz")), api.OK, d.Append("a", []byte("rst")), api.OK)
+	has(t, c, "a=123123123123123uvwxyz")
+}
+
 // R3
 func TestNil(t *testing.T) {
 	var d *disk.Disk

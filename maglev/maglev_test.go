@@ -54,7 +54,7 @@ func plainRow(id, slots int) (int, int) {
 // P18.1
 func TestRow(t *testing.T) {
 	for _, slots := range []int{3, 7, 251} {
-		for _, id := range []int{0, 1, 2, 255, 256, 65535, 1 << 20} {
+		for _, id := range []int{0, 1, 2, 255, 256, 65535, 1 << 20, 1<<24 + 7, 1<<31 + 3} {
 			offset, skip := maglev.Row(id, slots)
 			wantOffset, wantSkip := plainRow(id, slots)
 			if offset != wantOffset || skip != wantSkip {

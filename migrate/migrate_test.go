@@ -63,7 +63,7 @@ func TestRecord(t *testing.T) {
 		for from := 1; from <= 3; from++ {
 			for to := from; to <= 3; to++ {
 				got, e := migrate.Record(r, from, to)
-				if e != api.OK || !record.Same(got, after(r, from, to)) {
+				if e != api.OK || !record.Same(got, after(r, from, to)) || (r.Kind != api.RPut && got.Flow != r.Flow) {
 					t.Errorf("kind %d from %d to %d: %d, %v", r.Kind, from, to, e, got)
 				}
 			}

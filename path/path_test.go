@@ -100,7 +100,7 @@ func TestNewFlow(t *testing.T) {
 
 // P23.1
 func TestNewFlowsGoByTheTable(t *testing.T) {
-	ch := chooser(1, 2, 3)
+	ch := chooser(0, 2, 3)
 	for n := range 50 {
 		for _, proto := range []int{api.TCP, api.UDP} {
 			k := tup(n)

@@ -15,7 +15,6 @@ func Encode(r api.Record, version int) (api.Frame, api.Errno) {
 		return api.Frame{}, api.ErrArg
 	}
 	var w writer
-	r = Plain(r) // the walk has pointers into it
 	w.calls().walk(&r, version)
 	return api.Frame{Kind: r.Kind, Version: version, Body: w.Bytes()}, api.OK
 }
@@ -26,10 +25,10 @@ func Decode(f api.Frame) (api.Record, api.Errno) {
 		return api.Record{}, api.ErrVersion
 	}
 	r := api.Record{Kind: f.Kind}
-	rd := reader{Reader: octet.NewReader(f.Body)}
+	rd := reader{octet.NewReader(f.Body)}
 	rd.calls().walk(&r, f.Version)
 	r = In(r, f.Version)
-	if rd.bad || rd.End() != api.OK || !May(r) {
+	if rd.End() != api.OK || !May(r) {
 		return api.Record{}, api.ErrForm
 	}
 	return r, api.OK
@@ -107,22 +106,18 @@ func (w *writer) addr(a *uint32)     { w.U32(*a) }
 func (w *writer) i64(n *int64)       { w.I64(*n) }
 func (w *writer) tuple(t *api.Tuple) { tuple.Write(&w.Writer, *t) }
 
-// reader fills what it is shown.
+// reader fills what it is shown; a tuple that may not be is none, which no record may have.
 type reader struct {
 	*octet.Reader
-	bad bool // a tuple that may not be
 }
 
-func (r *reader) calls() calls {
+func (r reader) calls() calls {
 	return calls{u8: r.u8, u16: r.u16, u32: r.u32, addr: r.addr, i64: r.i64, tuple: r.tuple}
 }
 
-func (r *reader) u8(n *int)      { *n = r.U8() }
-func (r *reader) u16(n *int)     { *n = r.U16() }
-func (r *reader) u32(n *int)     { *n = int(r.U32()) }
-func (r *reader) addr(a *uint32) { *a = r.U32() }
-func (r *reader) i64(n *int64)   { *n = r.I64() }
-func (r *reader) tuple(t *api.Tuple) {
-	x, ok := tuple.Read(r.Reader)
-	*t, r.bad = x, r.bad || !ok
-}
+func (r reader) u8(n *int)          { *n = r.U8() }
+func (r reader) u16(n *int)         { *n = r.U16() }
+func (r reader) u32(n *int)         { *n = int(r.U32()) }
+func (r reader) addr(a *uint32)     { *a = r.U32() }
+func (r reader) i64(n *int64)       { *n = r.I64() }
+func (r reader) tuple(t *api.Tuple) { *t, _ = tuple.Read(r.Reader) }

@@ -105,6 +105,19 @@ func TestLoose(t *testing.T) {
 	tells(t, d, "one two")
 }
 
+// P6.2: what Open tells is sure, the names, too
+func TestOpenOfALooseLog(t *testing.T) {
+	d, _ := loose(t)
+	if _, e := seglog.Open(d, 40, nil); e != api.OK {
+		t.Fatalf("Open: %d", e)
+	}
+	d.Crash([]byte{0})
+	if m := theManifest(t, d); !slices.Equal(m.Segs, []int{1, 2}) {
+		t.Errorf("manifest %v", m)
+	}
+	tells(t, d, "one two")
+}
+
 // P6.3
 func TestAppendToTheLastSegment(t *testing.T) {
 	d := disk.New(plenty)

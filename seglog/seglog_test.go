@@ -161,7 +161,7 @@ func TestCreateWhereTheDiskFails(t *testing.T) {
 
 // P6.1, P6.3
 func TestSizes(t *testing.T) {
-	for size, segs := range map[int]int{-1: 3, 0: 3, 16: 3, 17: 3, 34: 3, 51: 2, 68: 2, 100: 1, 1 << 40: 1} {
+	for size, segs := range map[int]int{-1: 3, 0: 3, 16: 3, 17: 3, 49: 3, 50: 2, 74: 2, 75: 1, 100: 1, 1 << 40: 1} {
 		d := disk.New(plenty)
 		l := create(t, d, 3, size)
 		for _, b := range []string{"aaaaaaaaa", "bbbbbbbbb", "ccccccccc"} { // 25 bytes each
@@ -171,6 +171,22 @@ func TestSizes(t *testing.T) {
 			t.Errorf("size %d: segments %v, %d bytes", size, l.Segs(), l.Size())
 		}
 		tells(t, d, "aaaaaaaaa bbbbbbbbb ccccccccc")
+	}
+}
+
+// P6.1, P6.4: no segment is longer than a file may be
+func TestTheLongestSegment(t *testing.T) {
+	rows := make([]api.Frame, api.MaxFile/(16+api.MaxBody), 256)
+	for i := range rows {
+		rows[i].Body = make([]byte, api.MaxBody)
+	}
+	for body, segs := range map[string]int{"": 1, "x": 2} { // there is room for sixteen bytes more
+		d := disk.New(8 * api.MaxFile)
+		l := create(t, d, 3, 1<<40)
+		want(t, l.Swap(3, append(rows, api.Frame{Body: []byte(body)})), api.OK)
+		if len(l.Segs()) != segs {
+			t.Errorf("with %q: %d segments", body, len(l.Segs()))
+		}
 	}
 }
 

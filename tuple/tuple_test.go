@@ -86,6 +86,9 @@ func TestWriteAndRead(t *testing.T) {
 		if !bytes.Equal(w.Bytes()[1:], bytesOf(x)) {
 			t.Fatalf("Write(%v): %x", x, w.Bytes())
 		}
+		if got, ok := tuple.Read(octet.NewReader(bytesOf(x))); !ok || got != x {
+			t.Fatalf("Read of just its bytes: %v, %v", got, ok)
+		}
 		w.U8(7)
 		rd := octet.NewReader(w.Bytes()[1:])
 		if got, ok := tuple.Read(rd); !ok || got != x || rd.Left() != 1 {
